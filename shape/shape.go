@@ -34,6 +34,31 @@ func moved(t api.Type, by int) api.Type {
 	return m
 }
 
+// Put a type behind all, whose parts are there already, and answer its number; it is kept as it is.
+func (l *List) Put(t api.Type) int {
+	l.types = append(l.types, t)
+	return len(l.types) - 1
+}
+
+// Get the type of this number; it is only read.
+func (l *List) Get(i int) api.Type { return l.types[i] }
+
+// Size: how many types are in it, itself and all that it is made of, as often as they are.
+func (l *List) Size(i int) int {
+	size := 1
+	t := l.types[i]
+	for _, k := range t.List {
+		size += l.Size(k)
+	}
+	for _, f := range t.Fields {
+		size += l.Size(f.Type)
+	}
+	if t.Kind == api.TypeArray || t.Kind == api.TypeFunc {
+		size += l.Size(t.Of)
+	}
+	return size
+}
+
 // Text of a type.
 func (l *List) Text(i int) string { return l.text(&Writer{}, i) }
 
@@ -92,17 +117,11 @@ func (l *List) Union(types ...int) int {
 	}
 	switch len(list) {
 	case 0:
-		return l.put(api.Type{Kind: api.TypeAny})
+		return l.Put(api.Type{Kind: api.TypeAny})
 	case 1:
 		return list[0]
 	}
-	return l.put(api.Type{Kind: api.TypeUnion, List: list})
-}
-
-// put a type behind all; its parts are there already.
-func (l *List) put(t api.Type) int {
-	l.types = append(l.types, t)
-	return len(l.types) - 1
+	return l.Put(api.Type{Kind: api.TypeUnion, List: list})
 }
 
 // apart answers these types, and instead of unions what they are of.

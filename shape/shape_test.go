@@ -41,3 +41,30 @@ func TestUnionNumber(t *testing.T) {
 		t.Errorf("the union is %d: %s", both, l.Text(both))
 	}
 }
+
+// What is put has the next number, and is got again.
+func TestPut(t *testing.T) {
+	l := New()
+	num := l.Put(api.Type{Kind: api.TypeNum})
+	array := l.Put(api.Type{Kind: api.TypeArray, Of: num})
+	if num != 0 || array != 1 || l.Get(array).Of != num || l.Text(array) != "[num]" {
+		t.Errorf("%d, %d: %s", num, array, l.Text(array))
+	}
+}
+
+// The size of a type counts all in it, as often as they are.
+func TestSize(t *testing.T) {
+	l := New()
+	num := l.Put(api.Type{Kind: api.TypeNum})
+	array := l.Put(api.Type{Kind: api.TypeArray, Of: num})
+	none := l.Put(api.Type{Kind: api.TypeObject})
+	object := l.Put(api.Type{Kind: api.TypeObject, Fields: []api.Field{{Name: "a", Type: array}, {Name: "b", Type: array}}})
+	union := l.Put(api.Type{Kind: api.TypeUnion, List: []int{num, num, object}})
+	empty := l.Put(api.Type{Kind: api.TypeFunc, Of: array})
+	function := l.Put(api.Type{Kind: api.TypeFunc, List: []int{union, num}, Of: object})
+	for i, want := range map[int]int{num: 1, array: 2, none: 1, object: 5, union: 8, empty: 3, function: 15} {
+		if got := l.Size(i); got != want {
+			t.Errorf("the size of %s is %d, and must be %d", l.Text(i), got, want)
+		}
+	}
+}

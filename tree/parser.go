@@ -4,6 +4,7 @@ import (
 	"slices"
 
 	"guardrail/api"
+	"guardrail/giveup"
 )
 
 // none stands for a type, or a block, that a node does not have.
@@ -18,33 +19,22 @@ type parser struct {
 	types  []api.Type
 }
 
-// giveUp is what the parser panics with: a type of its own, so that no other panic is taken for it.
-type giveUp struct{ fault api.Fault }
-
 // whole reads a part that must go to the end of the text, and answers what is wrong with it.
-func (p *parser) whole(part func() int) (fault api.Fault) {
-	defer func() {
-		r := recover()
-		if g, ok := r.(giveUp); ok {
-			fault = g.fault
-		} else if r != nil {
-			panic(r)
+func (p *parser) whole(part func() int) api.Fault {
+	fault := giveup.Fault(func() {
+		part()
+		if !p.ended() {
+			p.fail(api.ErrForm)
 		}
-	}()
-	part()
-	if !p.ended() {
-		p.fail(api.ErrForm)
-	}
-	if len(p.nodes) > api.MaxNodes || len(p.types) > api.MaxTypes {
+	})
+	if fault.Err == api.OK && (len(p.nodes) > api.MaxNodes || len(p.types) > api.MaxTypes) {
 		return api.Fault{Err: api.ErrMany}
 	}
-	return api.Fault{}
+	return fault
 }
 
 // fail gives up at the token that is looked at.
-func (p *parser) fail(err api.Errno) {
-	panic(giveUp{api.Fault{Err: err, At: p.at()}})
-}
+func (p *parser) fail(err api.Errno) { giveup.At(err, p.at()) }
 
 // inside reads a part that may be in itself; what can't begin it is told ahead of its being too deep.
 func (p *parser) inside(begins bool, part func() int) int {
