@@ -15,10 +15,10 @@ import (
 type Program struct {
 	api.Program
 	*shape.List
-	Names     map[int]int              // by the node of a name: its let or param
-	Functions []int                    // by nodes: the innermost function around, or None
-	Of        []int                    // by nodes: the type that an expression has, or None
-	plain     [api.TypeUnknown + 1]int // by kinds: the types that have no parts
+	Names     map[int]int          // by the node of a name: its let or param
+	Functions []int                // by nodes: the innermost function around, or None
+	Of        []int                // by nodes: the type that an expression has, or None
+	plain     [api.TypeAny + 1]int // by kinds: the types that have no parts, but unknown, which nothing has of itself
 }
 
 // Read a program, and check it.
@@ -34,7 +34,7 @@ func Read(s string) (*Program, api.Fault) {
 	}
 	p.Functions = nodes.Functions(p.Nodes)
 	p.Add(p.Types...)
-	for kind := api.TypeNum; kind <= api.TypeUnknown; kind++ {
+	for kind := api.TypeNum; kind <= api.TypeAny; kind++ {
 		p.plain[kind] = p.Put(api.Type{Kind: kind})
 	}
 	return p, giveup.Fault(p.check)
