@@ -87,30 +87,50 @@ func (p *Program) has(i int) int {
 	return p.plain[api.TypeAny]
 }
 
+// statement: a return has a function around it, and what is asked for fits.
 func (p *Program) statement(i int) {
+	if n := p.Nodes[i]; n.Kind == api.NodeReturn && p.Functions[i] == nodes.None {
+		giveup.At(api.ErrState, n.At)
+	}
+	p.fitAll(i)
+}
+
+// fitAll gives up at a node that has a part that does not fit what is asked for.
+func (p *Program) fitAll(i int) {
+	p.Asks(i, func(part, asked int) { p.fit(i, part, asked) })
+}
+
+// Asks tells each part of a node of which a type is asked for, and that type; not what stands in `[ ]`, which is not guarded.
+func (p *Program) Asks(i int, tell func(part, asked int)) {
 	switch n := p.Nodes[i]; n.Kind {
+	case api.NodeCall:
+		p.asksHanded(n, tell)
+	case api.NodeAs:
+		tell(n.A, n.Type)
 	case api.NodeLet:
 		if n.Type != nodes.None {
-			p.fit(i, n.A, n.Type)
+			tell(n.A, n.Type)
 		}
 	case api.NodeSet:
-		p.fit(i, n.A, p.has(p.Names[i]))
+		tell(n.A, p.has(p.Names[i]))
 	case api.NodePut:
-		p.fit(i, n.B, p.field(i))
+		tell(n.B, p.field(i))
 	case api.NodeLay:
-		p.fit(i, n.C, p.place(i))
+		tell(n.C, p.place(i))
 	case api.NodeReturn:
-		p.leave(i)
+		tell(n.A, p.result(p.Nodes[p.Functions[i]]))
 	}
 }
 
-// leave: what a return has fits what is written behind the function's params.
-func (p *Program) leave(i int) {
-	n, function := p.Nodes[i], p.Functions[i]
-	if function == nodes.None {
-		giveup.At(api.ErrState, n.At)
+// asksHanded: of what is called a function's type asks for its params'; any asks for nothing.
+func (p *Program) asksHanded(n api.Node, tell func(part, asked int)) {
+	if p.IsAny(n.A) {
+		return
 	}
-	p.fit(i, n.A, p.result(p.Nodes[function]))
+	asked := p.Get(p.Of[n.A]).List
+	for k, part := range n.List {
+		tell(part, asked[k])
+	}
 }
 
 // result of a function, as it is written, or any.

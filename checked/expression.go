@@ -73,9 +73,7 @@ func (p *Program) call(i int) int {
 	if t.Kind != api.TypeFunc || len(n.List) != len(t.List) {
 		p.wrong(i)
 	}
-	for k, part := range n.List {
-		p.fit(i, part, t.List[k])
-	}
+	p.fitAll(i)
 	return t.Of
 }
 
@@ -161,3 +159,6 @@ func (p *Program) numbers(i int, parts ...int) {
 
 // kind of what an expression has.
 func (p *Program) kind(i int) int { return p.Get(p.Of[i]).Kind }
+
+// IsAny: has an expression the type any?
+func (p *Program) IsAny(i int) bool { return p.kind(i) == api.TypeAny }
