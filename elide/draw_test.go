@@ -50,6 +50,16 @@ func (w *writer) program() string {
 	return s + "let a: any = " + w.one("1", "\"t\"", "null") + "; let c = 1 as any; " + w.statements(7, 3)
 }
 
+// Drawn answers programs for the tests of runs, which stand in a package of their own, as package run leans on this one.
+func Drawn(n int) []string {
+	w := &writer{draw: 2}
+	var list []string
+	for range n {
+		list = append(list, w.program())
+	}
+	return list
+}
+
 func (w *writer) statements(n, deep int) string {
 	s := ""
 	for range 1 + w.below(n) {
