@@ -90,14 +90,19 @@ func (m *machine) enter(f *thing, handed []value) (v value) {
 		}
 	}()
 	n := m.Nodes[f.node]
-	own := newScope(f.around)
-	for k, param := range n.List {
+	m.block(n.A, m.params(n.List, handed, f.around))
+	return null()
+}
+
+// params that have what is handed in, or null, if there is no more of it.
+func (m *machine) params(list []int, handed []value, around *scope) *scope {
+	own := newScope(around)
+	for k, param := range list {
 		v := null()
 		if k < len(handed) {
 			v = handed[k]
 		}
 		own.own[param] = m.guarded(param, v)
 	}
-	m.block(n.A, own)
-	return null()
+	return own
 }
